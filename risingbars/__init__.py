@@ -1,0 +1,1 @@
+"""What the grades of judges prove whose standards drift one way."""
