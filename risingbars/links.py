@@ -23,20 +23,20 @@ def links_of(log):
 
 def links_between(log, worse, better):
     """Return the links that lead from the one item to the other one."""
-    _check_items(log, worse, better)
+    check_items(log, [worse, better])
     events = log.events
     return [link for link in links_of(log) if _ends_of(events, link) == (worse, better)]
 
 
 def way_between(log, worse, better):
     """Return the first way from the one item to the other one, or None if there is none."""
-    _check_items(log, worse, better)
+    check_items(log, [worse, better])
     return first_way(first_links(log, links_of(log)), worse, better)
 
 
 def is_way(log, way, worse, better):
     """Return True if the list of tuples of two integers is a way from the one item to the other one."""
-    _check_items(log, worse, better)
+    check_items(log, [worse, better])
     here = worse
     for first, second in way:
         if not is_link(log, first, second) or log.item_at(first) != here:
@@ -102,9 +102,10 @@ def ways_to(names, firsts):
     return found
 
 
-def _check_items(log, worse, better):
+def check_items(log, items):
+    """Raise UnknownItem for the first of these items that is none of the log."""
     names = log.item_names
-    for item in (worse, better):
+    for item in items:
         if item not in names:
             raise UnknownItem(item)
 

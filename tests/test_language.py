@@ -1,6 +1,7 @@
 """Rules of ../shared/LANGUAGE.md that a test can see, and that the interface stands where it is listed."""
 
 import ast
+import builtins
 import doctest
 import unittest
 from pathlib import Path
@@ -13,16 +14,35 @@ INTERFACE = {
     "notation": ["format_log", "format_event", "parse_log", "read_event"],
     "links": ["is_link", "links_of", "links_between", "way_between", "is_way", "worse_than", "has_way", "covers_of",
               "least_links"],
+    "explain": ["ring_of", "explains", "depths_of", "low_of", "high_of", "explanation", "check_explanation"],
+    "same": ["says_all", "say_same", "parting_qualities", "outer_answers", "needless_answers", "thinned"],
+    "pairs": ["order_of", "explains_order", "sure_pairs", "open_pairs", "may_be", "order_saying", "places_of",
+              "order_at", "best_items", "worst_items", "order_count", "single_count"],
+    "grades": ["grade_range", "check_range", "possible_grades", "order_with", "forecast", "answer_range"],
+    "sorting": ["class_count", "longest_way", "sort_items", "sorting_at", "is_sorting", "sorting_count", "widest",
+                "check_widest"],
+    "late": ["choices_of", "log_with", "possible_choices", "places_left", "sure_with", "late_paper", "check_late"],
+    "moves": ["move_places", "are_enough", "crossings", "crossings_apart", "fewest_moves", "rings_for_moves",
+              "least_moves"],
 }
-LOG = ["__init__", "item_names", "judges", "events", "grades", "drift_of", "answers", "answers_of", "is_answer",
-       "grade_at", "item_at", "judge_at", "stretch_of", "stretches", "in_order", "stretch_at", "lost_first",
-       "lost_second", "with_event", "with_event_at", "without_event", "beginning", "only", "with_item",
-       "with_judge", "without_item", "without_judge", "with_drift", "backwards", "same_as"]
+CLASSES = {
+    ("logs", "Log"): [
+        "__init__", "item_names", "judges", "events", "grades", "drift_of", "answers", "answers_of", "is_answer",
+        "grade_at", "item_at", "judge_at", "stretch_of", "stretches", "in_order", "stretch_at", "lost_first",
+        "lost_second", "with_event", "with_event_at", "without_event", "beginning", "only", "with_item",
+        "with_judge", "without_item", "without_judge", "with_drift", "backwards", "same_as"],
+    ("explain", "Explanation"): ["__init__"],
+    ("grades", "GradeRange"): ["__init__"],
+    ("cases", "Case"): [
+        "__init__", "answers", "stretch_of", "in_order", "stand_together", "links", "ring", "way_between",
+        "explanation", "explains"],
+}
+LIBRARY = {"math": ["comb"], "itertools": ["combinations"]}
 BUILTINS = ["len", "range", "enumerate", "zip", "min", "max", "sum", "abs", "sorted", "reversed", "int", "str",
             "bool", "list", "tuple", "dict", "set", "isinstance", "ord", "repr", "any", "all", "divmod"]
 ALLOWED = (ast.FunctionDef, ast.ClassDef, ast.ImportFrom, ast.Assign, ast.Expr)
-UNUSED = (ast.AsyncFunctionDef, ast.Global, ast.Lambda, ast.GeneratorExp, ast.Div, ast.Set, ast.SetComp, ast.Yield,
-          ast.Await, ast.Starred, ast.Import)
+UNUSED = (ast.AsyncFunctionDef, ast.Global, ast.GeneratorExp, ast.Div, ast.Set, ast.SetComp, ast.Yield, ast.Await,
+          ast.Starred, ast.Import, ast.NamedExpr, ast.Try, ast.With, ast.Match, ast.Nonlocal, ast.Invert)
 
 
 def trees():
@@ -57,7 +77,9 @@ class Language(unittest.TestCase):
         told = trees()
         for name, tree in told.items():
             for node in ast.walk(tree):
-                if isinstance(node, ast.ImportFrom):
+                if isinstance(node, ast.ImportFrom) and node.module in LIBRARY:
+                    self.assertEqual([alias.name for alias in node.names], LIBRARY[node.module], name)
+                elif isinstance(node, ast.ImportFrom):
                     package, stem = node.module.split(".")
                     self.assertEqual((package, node.level), ("risingbars", 0), name)
                     bound = bound_names(told[stem])
@@ -70,7 +92,7 @@ class Language(unittest.TestCase):
 
     def test_calls(self):
         for name, tree in trees().items():
-            bound = bound_names(tree)
+            bound = bound_names(tree) + ["is_enough"]
             for node in ast.walk(tree):
                 if isinstance(node, ast.Call) and isinstance(node.func, ast.Name):
                     self.assertIn(node.func.id, BUILTINS + bound, name)
@@ -83,16 +105,39 @@ class Language(unittest.TestCase):
         for stem, names in INTERFACE.items():
             defined = [node.name for node in told[stem].body if isinstance(node, ast.FunctionDef)]
             self.assertEqual([name for name in names if name not in defined], [])
-        log = [node for node in told["logs"].body if isinstance(node, ast.ClassDef)]
-        self.assertEqual([node.name for node in log], ["Log"])
-        defined = [node.name for node in log[0].body if isinstance(node, ast.FunctionDef)]
-        self.assertEqual([name for name in LOG if name not in defined], [])
-        self.assertEqual(len(defined), len(set(defined)))
+        for (stem, name), methods in CLASSES.items():
+            found = [node for node in told[stem].body if isinstance(node, ast.ClassDef)]
+            self.assertEqual([node.name for node in found], [name])
+            defined = [node.name for node in found[0].body if isinstance(node, ast.FunctionDef)]
+            self.assertEqual([method for method in methods if method not in defined], [])
+            self.assertEqual(len(defined), len(set(defined)))
+
+    def test_parameters_and_variables_have_names_of_their_own(self):
+        for name, tree in trees().items():
+            taken = dir(builtins) + bound_names(tree, (ast.ClassDef, ast.ImportFrom))
+            used = [node.arg for node in ast.walk(tree) if isinstance(node, ast.arg)]
+            used += [node.id for node in ast.walk(tree) if isinstance(node, ast.Name) and isinstance(node.ctx, ast.Store)]
+            self.assertEqual([word for word in used if word in taken], [], name)
+            defined = [node.name for node in ast.walk(tree) if isinstance(node, (ast.FunctionDef, ast.ClassDef))
+                       and node in tree.body]
+            self.assertEqual([word for word in defined if word in dir(builtins)], [], name)
+
+    def test_no_files_import_from_each_other(self):
+        told = {name: [node.module.split(".")[-1] for node in tree.body if isinstance(node, ast.ImportFrom)]
+                for name, tree in trees().items()}
+        ahead = []
+        while len(ahead) < len(told):
+            free = [name for name in told if name not in ahead
+                    and all(other in ahead or other not in told for other in told[name])]
+            self.assertTrue(free, "some files import from each other")
+            ahead += free
 
 
-def bound_names(tree):
+def bound_names(tree, kinds=(ast.FunctionDef, ast.ClassDef, ast.ImportFrom, ast.Assign)):
     names = []
     for node in tree.body:
+        if not isinstance(node, kinds):
+            continue
         if isinstance(node, (ast.FunctionDef, ast.ClassDef)):
             names.append(node.name)
         elif isinstance(node, ast.ImportFrom):
