@@ -13,7 +13,7 @@ class Case:
     def __init__(self, log, *, drifts=None, struck=None, resets=None, moves=None):
         _check_drifts(log, {} if drifts is None else drifts)
         for places in (struck, resets, moves):
-            _check_answers(log, [] if places is None else places)
+            check_answers(log, [] if places is None else places)
         self._log = log
         self._events = log.events
         self._drifts = {judge: drift for judge, drift in log.judges}
@@ -122,7 +122,8 @@ def _check_drifts(log, drifts):
             raise InvalidDrift(f"{drift} is no drift")
 
 
-def _check_answers(log, places):
+def check_answers(log, places):
+    """Raise InvalidPlace for the first of these places that is none of an answer."""
     for place in places:
         if not log.is_answer(place):
             raise InvalidPlace(place)

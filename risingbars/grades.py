@@ -19,7 +19,7 @@ def grade_range(log, judge, place, item):
     """Return the GradeRange of the lost answer of the judge about the item at the place."""
     _check_lost(log, judge, place, item)
     worse = surely_worse(log)
-    later, earlier = _neighbours(log, judge, place)
+    later, earlier = neighbours(log, judge, place)
     least, above = _least_end(log, worse, later, item)
     greatest, below = _greatest_end(log, worse, earlier, item)
     firsts = first_links(log, links_of(log))
@@ -39,7 +39,7 @@ def check_range(log, judge, place, item, told):
 def possible_grades(log, judge, place, item):
     """Return the possible grades of the lost answer."""
     _check_lost(log, judge, place, item)
-    least, greatest = _ends_of(log, surely_worse(log), _neighbours(log, judge, place), item)
+    least, greatest = ends_of(log, surely_worse(log), neighbours(log, judge, place), item)
     return list(range(least, greatest + 1))
 
 
@@ -57,8 +57,8 @@ def forecast(log):
     worse = surely_worse(log)
     told = {}
     for judge, _ in log.judges:
-        near = _neighbours(log, judge, len(log.events))
-        told[judge] = {item: _ends_of(log, worse, near, item) for item in log.item_names}
+        near = neighbours(log, judge, len(log.events))
+        told[judge] = {item: ends_of(log, worse, near, item) for item in log.item_names}
     return told
 
 
@@ -66,7 +66,7 @@ def answer_range(log, place):
     """Return the ends of the possible grades for the answer at the place, by the log without it."""
     judge = log.judge_at(place)
     rest = log.without_event(place)
-    return _ends_of(rest, surely_worse(rest), _neighbours(rest, judge, place), log.item_at(place))
+    return ends_of(rest, surely_worse(rest), neighbours(rest, judge, place), log.item_at(place))
 
 
 def _copied(paper):
@@ -79,7 +79,7 @@ def _check_lost(log, judge, place, item):
     check_items(log, [item])
 
 
-def _neighbours(log, judge, place):
+def neighbours(log, judge, place):
     """Return the answers before which a lost answer is in order, and those behind which it is."""
     stretch = log.stretch_at(judge, place)
     return ([at for at in stretch if log.lost_first(judge, place, at)],
@@ -100,7 +100,7 @@ def _greatest_end(log, worse, earlier, item):
     return greatest if greatest[0] < log.grades else (log.grades, None)
 
 
-def _ends_of(log, worse, near, item):
+def ends_of(log, worse, near, item):
     """Return the tuple of the least and the greatest possible grade."""
     return (_least_end(log, worse, near[0], item)[0], _greatest_end(log, worse, near[1], item)[0])
 

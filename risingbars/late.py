@@ -3,7 +3,7 @@
 from risingbars.errors import InvalidGrade, InvalidPlace, TooLarge
 from risingbars.links import check_items, first_way, is_way, ways_to
 from risingbars.logs import MOST_EVENTS, Log
-from risingbars.relation import depths_by, links_by_pair
+from risingbars.relation import depths_by, is_explained, links_by_pair
 
 MOST_CHOICES = 500
 
@@ -25,7 +25,7 @@ def log_with(log, lates, choice):
 
 def possible_choices(log, lates):
     """Return the possible choices."""
-    return [choice for choice in choices_of(log, lates) if _is_possible(_log_of(log, lates, choice))]
+    return [choice for choice in choices_of(log, lates) if is_explained(_log_of(log, lates, choice))]
 
 
 def places_left(log, lates, number):
@@ -100,11 +100,6 @@ def _log_of(log, lates, choice):
         events.extend([("answer", late[0], late[1], late[2]) for late, at in zip(lates, choice) if at == place])
         events.extend(old[place:place + 1])
     return Log(log.item_names, log.grades, log.judges, events)
-
-
-def _is_possible(log):
-    """Return True if the log is explained."""
-    return depths_by(log.item_names, links_by_pair(log)) is not None
 
 
 def _way_or_ring(log, worse, better):

@@ -2,6 +2,17 @@
 
 from itertools import combinations
 
+from risingbars.errors import TooLarge
+
+MOST_PLACES = 10
+MOST_ANSWERS = 40
+
+
+def check_sizes(places, answers):
+    """Raise TooLarge if there are more places, or more answers, than all lists of places are tried with."""
+    if len(places) > MOST_PLACES or len(answers) > MOST_ANSWERS:
+        raise TooLarge("there are too many places or answers")
+
 
 def least_lists(places, is_enough):
     """Return the least lists of these ascending places for which the function returns True."""

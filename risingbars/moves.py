@@ -1,13 +1,11 @@
 """How often, and when, standards must have moved."""
 
 from risingbars.cases import Case
-from risingbars.errors import InvalidDrift, NotYesAndNo, TooLarge, Unexplained
+from risingbars.errors import InvalidDrift, NotYesAndNo, Unexplained
 from risingbars.explain import ring_of
-from risingbars.least import least_lists
+from risingbars.least import check_sizes, least_lists
 from risingbars.links import links_of
-
-MOST_PLACES = 10
-MOST_ANSWERS = 40
+from risingbars.rings import places_across, rings_in_turn
 
 
 def move_places(log):
@@ -64,14 +62,7 @@ def rings_for_moves(log):
     """Return the rings for moves. Raise Unexplained if the log contradicts itself."""
     if ring_of(log) is not None:
         raise Unexplained("the log contradicts itself")
-    rings = []
-    places = []
-    ring = Case(log, moves=places).ring()
-    while ring is not None:
-        rings.append(ring)
-        places = places + _held_places(log, ring)
-        ring = Case(log, moves=places).ring()
-    return rings
+    return rings_in_turn(lambda places: Case(log, moves=places), lambda ring: _held_places(log, ring))
 
 
 def least_moves(log, *, judge=None):
@@ -79,8 +70,7 @@ def least_moves(log, *, judge=None):
     own = log.answers() if judge is None else log.answers_of(judge)
     struck = [place for place in log.answers() if place not in own]
     places = [place for place in move_places(log) if place in own]
-    if len(places) > MOST_PLACES or len(own) > MOST_ANSWERS:
-        raise TooLarge("there are too many places for moves or answers")
+    check_sizes(places, own)
     return least_lists(places, lambda lot: Case(log, struck=struck, moves=lot).is_explained())
 
 
@@ -89,7 +79,5 @@ def _held_places(log, ring):
     found = []
     for first, second in ring:
         if not log.in_order(first, second):
-            early = min(first, second)
-            late = max(first, second)
-            found.extend([place for place in log.stretch_of(first) if early < place <= late])
+            found.extend(places_across(log, (first, second)))
     return found

@@ -32,6 +32,11 @@ def depths_by(names, pairs):
     return None
 
 
+def is_explained(log):
+    """Return True if the log does not contradict itself."""
+    return depths_by(log.item_names, links_by_pair(log)) is not None
+
+
 def first_ring(names, firsts):
     """Return the first ring of links, or None; `firsts` tells the first link of each pair of items."""
     ways = [first_way(firsts, name, name) for name in names]

@@ -24,6 +24,13 @@ INTERFACE = {
     "late": ["choices_of", "log_with", "possible_choices", "places_left", "sure_with", "late_paper", "check_late"],
     "moves": ["move_places", "are_enough", "crossings", "crossings_apart", "fewest_moves", "rings_for_moves",
               "least_moves"],
+    "strikes": ["fewest_strikes", "rings_apart", "does_free", "least_strikes"],
+    "drifts": ["possible_drifts", "may_stay", "staying_lots", "reset_places", "does_part", "rings_for_resets",
+               "least_resets"],
+    "asks": ["outcomes", "sure_gain", "best_gain", "quiet_grades", "best_asks", "is_open", "even_qualities",
+             "open_answers", "could_prove"],
+    "panels": ["joined", "explain_all", "ring_in", "quarrels", "peaces", "together"],
+    "report": ["pair_table", "forecast_table", "ring_line"],
 }
 CLASSES = {
     ("logs", "Log"): [
@@ -36,13 +43,22 @@ CLASSES = {
     ("cases", "Case"): [
         "__init__", "answers", "stretch_of", "in_order", "stand_together", "links", "ring", "way_between",
         "explanation", "explains"],
+    ("worlds", "World"): ["__init__", "quality_of", "bars_of", "move", "set_anew", "would_say", "answer", "log", "bars_at"],
+    ("desk", "Desk"): [
+        "__init__", "put_event", "put_event_at", "drop_event", "put_item", "put_judge", "set_drift", "log_now", "answer",
+        "undo", "redo", "trial", "change_all", "found"],
+    ("desk", "Trial"): ["__init__", "__enter__", "__exit__"],
+    ("session", "Session"): ["__init__", "obey", "play"],
 }
+PROPERTIES = {"item_names", "judges", "events", "grades", "found"}
 LIBRARY = {"math": ["comb"], "itertools": ["combinations"]}
 BUILTINS = ["len", "range", "enumerate", "zip", "min", "max", "sum", "abs", "sorted", "reversed", "int", "str",
             "bool", "list", "tuple", "dict", "set", "isinstance", "ord", "repr", "any", "all", "divmod"]
 ALLOWED = (ast.FunctionDef, ast.ClassDef, ast.ImportFrom, ast.Assign, ast.Expr)
 UNUSED = (ast.AsyncFunctionDef, ast.Global, ast.GeneratorExp, ast.Div, ast.Set, ast.SetComp, ast.Yield, ast.Await,
-          ast.Starred, ast.Import, ast.NamedExpr, ast.Try, ast.With, ast.Match, ast.Nonlocal, ast.Invert)
+          ast.Starred, ast.Import, ast.NamedExpr, ast.Nonlocal, ast.Invert, ast.Delete)
+# Parameters that are functions.
+FUNCTIONS = ["is_enough", "case_with", "places_of"]
 
 
 def trees():
@@ -92,13 +108,41 @@ class Language(unittest.TestCase):
 
     def test_calls(self):
         for name, tree in trees().items():
-            bound = bound_names(tree) + ["is_enough"]
+            bound = bound_names(tree) + FUNCTIONS
             for node in ast.walk(tree):
                 if isinstance(node, ast.Call) and isinstance(node.func, ast.Name):
                     self.assertIn(node.func.id, BUILTINS + bound, name)
                 if isinstance(node, (ast.FunctionDef, ast.ClassDef)):
                     decorators = [told.id for told in node.decorator_list]
                     self.assertIn(decorators, ([], ["property"]), name)
+                    self.assertEqual(decorators != [], node.name in PROPERTIES, name)
+
+    def test_handlers(self):
+        for name, tree in trees().items():
+            for node in ast.walk(tree):
+                if isinstance(node, ast.FunctionDef):
+                    handlers = [part for part in ast.walk(node) if isinstance(part, ast.ExceptHandler)]
+                    used = [part.id for part in ast.walk(node) if isinstance(part, ast.Name)
+                            and isinstance(part.ctx, ast.Store)] + [part.arg for part in node.args.args]
+                    caught = [part.name for part in handlers if part.name]
+                    self.assertEqual(len(caught), len(set(caught)), name)
+                    self.assertEqual([word for word in caught if word in used], [], name)
+                    for part in handlers:
+                        self.assertIn(part.type.id, bound_names(tree), name)
+
+    def test_properties_are_assigned_nowhere(self):
+        for name, tree in trees().items():
+            assigned = [node.attr for node in ast.walk(tree) if isinstance(node, ast.Attribute)
+                        and not isinstance(node.ctx, ast.Load)]
+            self.assertEqual([word for word in assigned if word in PROPERTIES], [], name)
+
+    def test_no_name_is_a_method_and_an_attribute(self):
+        for name, tree in trees().items():
+            for told in [node for node in tree.body if isinstance(node, ast.ClassDef)]:
+                methods = [node.name for node in told.body if isinstance(node, ast.FunctionDef)]
+                assigned = [node.attr for node in ast.walk(told) if isinstance(node, ast.Attribute)
+                            and not isinstance(node.ctx, ast.Load)]
+                self.assertEqual([word for word in assigned if word in methods], [], name)
 
     def test_interface_stands_where_it_is_listed(self):
         told = trees()
@@ -106,8 +150,8 @@ class Language(unittest.TestCase):
             defined = [node.name for node in told[stem].body if isinstance(node, ast.FunctionDef)]
             self.assertEqual([name for name in names if name not in defined], [])
         for (stem, name), methods in CLASSES.items():
-            found = [node for node in told[stem].body if isinstance(node, ast.ClassDef)]
-            self.assertEqual([node.name for node in found], [name])
+            found = [node for node in told[stem].body if isinstance(node, ast.ClassDef) and node.name == name]
+            self.assertEqual(len(found), 1)
             defined = [node.name for node in found[0].body if isinstance(node, ast.FunctionDef)]
             self.assertEqual([method for method in methods if method not in defined], [])
             self.assertEqual(len(defined), len(set(defined)))
@@ -152,6 +196,12 @@ class Readme(unittest.TestCase):
         told = doctest.testfile(str(ROOT / "README.md"), module_relative=False)
         self.assertEqual(told.failed, 0)
         self.assertGreater(told.attempted, 5)
+
+    def test_it_tells_of_all_files(self):
+        text = (ROOT / "README.md").read_text("ascii")
+        for stem in trees():
+            if stem != "__init__":
+                self.assertIn(f"`risingbars/{stem}.py`", text)
 
 
 if __name__ == "__main__":

@@ -2,10 +2,9 @@
 
 import unittest
 from itertools import combinations
-from random import Random
 
-from helpers import LiteralCase, answers, contradictory_logs, contradicts, explained_logs, of_one_stretch, parts_of
-from helpers import plain_log, raised, random_logs
+from helpers import LiteralCase, answers, contradictory_logs, contradicts, explained_logs, literal_least, moving_logs
+from helpers import of_one_stretch, parts_of, parts_of_list, plain_log, raised, random_logs, yes_and_no_logs
 from risingbars.cases import Case
 from risingbars.errors import InvalidDrift, InvalidPlace, NotYesAndNo, TooLarge, Unexplained, UnknownJudge
 from risingbars.logs import Log
@@ -37,49 +36,6 @@ def literal_crossings(log, judge):
                 and not between):
             found.append((i, j))
     return sorted(found, key=lambda crossing: crossing[1])
-
-
-def parts_of_list(places):
-    """All lists of these places, by their number and then as Python compares lists."""
-    return [list(lot) for many in range(len(places) + 1) for lot in combinations(places, many)]
-
-
-def literal_least(places, is_enough):
-    """Point 47."""
-    enough = [lot for lot in parts_of_list(places) if is_enough(lot)]
-    return [lot for lot in enough if not any([place for place in lot if place != out] in enough for out in lot)]
-
-
-def yes_and_no_logs(seed, many, most_events=9):
-    """Logs of which the highest grade is 1, of judges of all drifts."""
-    random = Random(seed)
-    logs = []
-    for _ in range(many):
-        judges = [("j", random.choice(["rises", "falls"])), ("k", random.choice(["rises", "falls", "stays"]))]
-        events = []
-        for _ in range(random.randint(0, most_events)):
-            judge = random.choice("jjk")
-            if random.random() < 0.12:
-                events.append(("reset", judge))
-            else:
-                events.append(("answer", judge, random.choice("xyz"), random.randint(0, 1)))
-        logs.append(Log(["x", "y", "z"], 1, judges, events))
-    return logs
-
-
-def moving_logs(seed, many, most_events=9):
-    """Logs of judges whose grades go down, or up, with the drift, so that they seldom contradict themselves."""
-    random = Random(seed)
-    logs = []
-    for _ in range(many):
-        judges = [("j", random.choice(["rises", "falls"])), ("k", random.choice(["rises", "falls"]))]
-        events = []
-        for at in range(random.randint(4, most_events)):
-            judge, drift = random.choice(judges)
-            grade = (most_events - at if drift == "rises" else at) // 2 - 1 + random.randint(0, 2)
-            events.append(("answer", judge, random.choice("xyz"), min(max(grade, 0), 3)))
-        logs.append(Log(["x", "y", "z"], 3, judges, events))
-    return [log for log in logs if not contradicts(log)]
 
 
 class Places(unittest.TestCase):
